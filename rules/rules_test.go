@@ -31,7 +31,7 @@ func library() []string {
 
 // packages is the program's folders.
 func packages() []string {
-	return strings.Fields("api bandit belief birth cast chance choice coin depot desk line lots net path plain ratio renew risk roads seats server shop stop store tape tree trip walk")
+	return strings.Fields("api bandit belief birth cast chance choice coin depot desk equations line lots net path plain ratio renew risk roads seats server shop stop store tape tree trip walk")
 }
 
 // files is every file of the program, by its path.
